@@ -6,6 +6,7 @@ import (
 	"testing"
 
 	"yearbook/api"
+	"yearbook/bandrows"
 	"yearbook/pmc"
 )
 
@@ -18,51 +19,16 @@ func at(ends ...int64) []api.Band {
 	return l
 }
 
-// same is n bands from lo to hi.
-func same(n int, lo, hi int64) []api.Band {
-	var l []api.Band
-	for i := range n {
-		l = append(l, api.Band{T: int64(i), Lo: lo, Hi: hi})
-	}
-	return l
-}
-
-// small is all spans that may be from -most to most.
-func small(most int64) []api.Span {
-	var l []api.Span
-	for lo := -most; lo <= most; lo++ {
-		for hi := lo; hi <= most; hi++ {
-			l = append(l, api.Span{Lo: lo, Hi: hi})
-		}
-	}
-	return l
-}
-
-// rows tells all rows of so many bands, each of one of the spans.
-func rows(n int, ends []api.Span) [][]api.Band {
-	l := [][]api.Band{nil}
-	for i := range n {
-		var longer [][]api.Band
-		for _, row := range l {
-			for _, s := range ends {
-				b := api.Band{T: int64(3 * i), Lo: s.Lo, Hi: s.Hi}
-				longer = append(longer, append(slices.Clone(row), b))
-			}
-		}
-		l = longer
-	}
-	return l
-}
-
 // smallRows tells all rows of up to three bands, and those of four, and of six, that are smaller.
 func smallRows() [][]api.Band {
 	var l [][]api.Band
+	times := []int64{0, 3, 6, 9, 12, 15}
 	for n, most := range []int64{1: 3, 2: 3, 3: 2, 4: 1} {
 		if n > 0 {
-			l = append(l, rows(n, small(most))...)
+			l = append(l, bandrows.All(times[:n], bandrows.Spans(most))...)
 		}
 	}
-	return append(l, rows(6, []api.Span{{Lo: 0, Hi: 0}, {Lo: 0, Hi: 1}, {Lo: 1, Hi: 1}, {Lo: 1, Hi: 2}})...)
+	return append(l, bandrows.All(times, []api.Span{{Lo: 0, Hi: 0}, {Lo: 0, Hi: 1}, {Lo: 1, Hi: 1}, {Lo: 1, Hi: 2}})...)
 }
 
 // longRows tells rows of many bands that wander, faster or slower, about 0 and about the ends of what may be told.
@@ -153,53 +119,6 @@ func middle(s api.Span) int64 {
 	return (s.Lo + s.Hi) >> 1
 }
 
-// noBands are wrong each in one way.
-func noBands() [][]api.Band {
-	good := same(255, 0, 5)
-	falling := same(256, 0, 5)
-	falling[255].T = 254
-	return [][]api.Band{
-		nil,
-		{},
-		same(257, 0, 5),
-		same(1000, -1, 1),
-		make([]api.Band, 257),
-		at(1, 0),
-		at(2, 1),
-		at(0, -1),
-		at(api.MaxBack, -api.MaxBack),
-		at(math.MaxInt64, math.MinInt64),
-		at(0, 5, 5, 4),
-		at(1, 2, 3, 4, 6, 5),
-		at(0, api.MaxBack+1),
-		at(-api.MaxBack-1, 0),
-		at(api.MaxBack+1, api.MaxBack+1),
-		at(-api.MaxBack-1, -api.MaxBack-1),
-		at(math.MinInt64, math.MaxInt64),
-		at(math.MinInt64, 0),
-		at(0, math.MaxInt64),
-		at(1, 2, 3, math.MaxInt64),
-		at(1, 2, 3, 4, math.MinInt64, 5),
-		{{T: -1}},
-		{{T: -1}, {T: 0}},
-		{{T: math.MinInt64}},
-		{{T: math.MinInt64}, {T: math.MaxInt64}},
-		{{T: api.MaxTime + 1}},
-		{{T: 0}, {T: api.MaxTime + 1}},
-		{{T: math.MaxInt64}},
-		{{T: 3}, {T: 3}},
-		{{T: 3}, {T: 2}},
-		{{T: 3}, {T: 5}, {T: 4}},
-		{{T: 3}, {T: 5}, {T: 3}},
-		{{T: api.MaxTime}, {T: 0}},
-		{{T: 3, Lo: 1, Hi: 1}, {T: 3, Lo: 2, Hi: 2}},
-		falling,
-		append(slices.Clone(good), api.Band{T: 255, Lo: 1, Hi: 0}),
-		append(slices.Clone(good), api.Band{T: 255, Lo: 0, Hi: api.MaxBack + 1}),
-		append(slices.Clone(good), api.Band{T: api.MaxTime + 1}),
-	}
-}
-
 // holdAll asks all calls of bands that may be.
 func holdAll(t *testing.T, l []api.Band, want []int) {
 	t.Helper()
@@ -239,16 +158,16 @@ func TestCheck(t *testing.T) {
 		{{T: 0}, {T: api.MaxTime}},
 		{{T: api.MaxTime - 1}, {T: api.MaxTime}},
 		{{T: 7, Lo: 9, Hi: 9}, {T: 8, Lo: -9, Hi: -9}},
-		same(255, 0, 5),
-		same(256, 0, 5),
-		same(300, 0, 5)[44:],
+		bandrows.Same(255, 0, 5),
+		bandrows.Same(256, 0, 5),
+		bandrows.Same(300, 0, 5)[44:],
 	}
 	for _, l := range may {
 		if e := pmc.Check(l); e != api.OK {
 			t.Errorf("Check(%v): %d", l, e)
 		}
 	}
-	for _, l := range noBands() {
+	for _, l := range bandrows.Wrong() {
 		if e := pmc.Check(l); e != api.ErrBands {
 			t.Errorf("Check(%v): %d", l, e)
 		}
@@ -275,7 +194,7 @@ func TestCheckAtEachPlace(t *testing.T) {
 
 func TestNoBands(t *testing.T) {
 	// P8.1 to P8.3: of bands that may not be ErrBands goes ahead of ErrFit, and nothing is told besides.
-	for _, l := range noBands() {
+	for _, l := range bandrows.Wrong() {
 		for _, x := range [][]api.Band{l, append(slices.Clone(l), l...)} {
 			if s, e := pmc.Common(x); s != (api.Span{}) || e != api.ErrBands {
 				t.Errorf("Common(%v): %v %d", x, s, e)
@@ -306,9 +225,9 @@ func TestLongRows(t *testing.T) {
 		holdAll(t, l, cut(l))
 	}
 	for _, n := range []int{1, 2, 255, 256} {
-		holdAll(t, same(n, -3, 3), []int{n})
+		holdAll(t, bandrows.Same(n, -3, 3), []int{n})
 		// The last one alone lies elsewhere.
-		l := append(same(n, -3, 3), api.Band{T: 1000, Lo: 4, Hi: 4})[max(0, n-255):]
+		l := append(bandrows.Same(n, -3, 3), api.Band{T: 1000, Lo: 4, Hi: 4})[max(0, n-255):]
 		holdAll(t, l, []int{len(l) - 1, 1})
 		var apart []api.Band
 		for i := range n {
@@ -408,9 +327,9 @@ func TestFewest(t *testing.T) {
 
 func TestNarrower(t *testing.T) {
 	// P8.4: narrower bands have no fewer parts.
-	for _, l := range rows(3, small(1)) {
+	for _, l := range bandrows.All([]int64{0, 3, 6}, bandrows.Spans(1)) {
 		before, _ := pmc.Cut(l)
-		for _, narrow := range rows(3, small(1)) {
+		for _, narrow := range bandrows.All([]int64{0, 3, 6}, bandrows.Spans(1)) {
 			inside := true
 			for i, b := range narrow {
 				inside = inside && l[i].Lo <= b.Lo && b.Hi <= l[i].Hi
