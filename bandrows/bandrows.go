@@ -1,4 +1,4 @@
-// Package bandrows tells rows of bands on which the layers that go through bands are tested. No layer calls it.
+// Package bandrows tells rows of bands, and lines, on which the layers that go through bands are tested. No layer calls it.
 package bandrows
 
 import (
@@ -24,6 +24,14 @@ func Same(n int, lo, hi int64) []api.Band {
 		l = append(l, api.Band{T: t, Lo: lo, Hi: hi})
 	}
 	return l
+}
+
+// Below tells a function of numbers that wander, each from 0 on and below what is asked: always the same, of the same state.
+func Below(state uint64) func(n int64) int64 {
+	return func(n int64) int64 {
+		state = state*6364136223846793005 + 1442695040888963407
+		return int64(state>>33) % n
+	}
 }
 
 // Spans tells all spans from -most to most.

@@ -34,11 +34,7 @@ func smallRows() [][]api.Band {
 // longRows tells rows of many bands that wander, faster or slower, about 0 and about the ends of what may be told.
 func longRows() [][]api.Band {
 	var l [][]api.Band
-	state := uint64(1)
-	below := func(n int64) int64 {
-		state = state*6364136223846793005 + 1442695040888963407
-		return int64(state>>33) % n
-	}
+	below := bandrows.Below(1)
 	for _, n := range []int{17, 100, 255, 256} {
 		for _, width := range []int64{1, 2, 10, 40} {
 			for _, middle := range []int64{0, api.MaxBack - 300, 300 - api.MaxBack} {

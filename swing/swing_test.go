@@ -1,7 +1,6 @@
 package swing_test
 
 import (
-	"math"
 	"math/big"
 	"slices"
 	"testing"
@@ -16,64 +15,6 @@ const maxBack = int64(api.MaxBack)
 
 func over(n, d int64) api.Slope {
 	return api.Slope{N: n, D: d}
-}
-
-// smallRows tells all rows of up to five bands that are small, less so the fewer there are.
-func smallRows() [][]api.Band {
-	few := []api.Span{{Lo: 0, Hi: 0}, {Lo: 0, Hi: 1}, {Lo: -1, Hi: 2}, {Lo: 2, Hi: 2}}
-	return slices.Concat(
-		bandrows.All([]int64{0}, bandrows.Spans(4)),
-		bandrows.All([]int64{7}, bandrows.Spans(2)),
-		bandrows.All([]int64{0, 1}, bandrows.Spans(3)),
-		bandrows.All([]int64{3, 5}, bandrows.Spans(2)),
-		bandrows.All([]int64{0, 1, 2}, bandrows.Spans(2)),
-		bandrows.All([]int64{1, 3, 4}, bandrows.Spans(1)),
-		bandrows.All([]int64{0, 1, 2, 5}, bandrows.Spans(1)),
-		bandrows.All([]int64{0, 2, 3, 4, 7}, few),
-	)
-}
-
-// longRows tells rows of many bands that climb, fall and wander, about 0 and about the ends of what may be told.
-func longRows() [][]api.Band {
-	var l [][]api.Band
-	state := uint64(9)
-	below := func(n int64) int64 {
-		state = state*6364136223846793005 + 1442695040888963407
-		return int64(state>>33) % n
-	}
-	for _, n := range []int{17, 90, 256} {
-		for _, width := range []int64{1, 3, 30} {
-			for _, climb := range []int64{0, 2, -5} {
-				for _, middle := range []int64{0, maxBack - 9000, 9000 - maxBack} {
-					var row []api.Band
-					at := below(5)
-					for range n {
-						lo := middle + climb*at + below(10)
-						row = append(row, api.Band{T: at, Lo: lo, Hi: lo + below(width)})
-						at += 1 + below(6)
-					}
-					l = append(l, row)
-				}
-			}
-		}
-	}
-	return l
-}
-
-// farRows tells rows whose ends, and whose times, are as far from one another as they may be.
-func farRows() [][]api.Band {
-	const m, end = maxBack, int64(api.MaxTime)
-	times := [][]int64{{0, end}, {0, 1}, {end - 1, end}, {0, end - 1, end}, {0, 1, end}, {5, end / 3, end / 3 * 2}}
-	ends := []api.Span{{Lo: -m, Hi: -m}, {Lo: m, Hi: m}, {Lo: -m, Hi: m}, {Lo: -m, Hi: 1 - m}, {Lo: m - 1, Hi: m}, {Lo: 0, Hi: 0}}
-	var l [][]api.Band
-	for _, row := range times {
-		l = append(l, bandrows.All(row, ends)...)
-	}
-	return l
-}
-
-func allRows() [][]api.Band {
-	return slices.Concat(smallRows(), longRows(), farRows())
 }
 
 // goes tells whether the exact value of a line that may be is in each band, in numbers that lose nothing.
@@ -162,7 +103,7 @@ func TestHinge(t *testing.T) {
 			}
 		}
 	}
-	for _, l := range allRows() {
+	for _, l := range bandrows.Various() {
 		if v, e := swing.Hinge(l); v != middle(l[0]) || e != api.OK {
 			t.Fatalf("Hinge(%v): %d %d", l, v, e)
 		}
@@ -172,7 +113,7 @@ func TestHinge(t *testing.T) {
 func TestDoor(t *testing.T) {
 	// P9.1: by the chapter's own words, be it shut; a rational number of the library is in lowest terms.
 	shut, open := 0, 0
-	for _, l := range allRows() {
+	for _, l := range bandrows.Various() {
 		lo, hi, e := swing.Door(l)
 		if len(l) == 1 {
 			if lo != over(0, 0) || hi != over(0, 0) || e != api.ErrEmpty {
@@ -220,76 +161,11 @@ func TestDoorEdges(t *testing.T) {
 	}
 }
 
-// lines tells small lines, and some that are not.
-func lines() []api.Line {
-	var l []api.Line
-	for a := int64(-2); a <= 2; a++ {
-		for d := int64(0); d <= 3; d++ {
-			for r := int64(-1); r <= d; r++ {
-				for n := int64(-4); n <= 4; n++ {
-					l = append(l, api.Line{A: a, R: r, N: n, D: d})
-				}
-			}
-		}
-	}
-	return l
-}
-
 func TestThrough(t *testing.T) {
-	// P9.2: by the chapter's own words; false of a line that may not be.
-	all := slices.Concat(bandrows.All([]int64{0}, bandrows.Spans(2)), bandrows.All([]int64{6}, bandrows.Spans(1)), bandrows.All([]int64{0, 1}, bandrows.Spans(2)), bandrows.All([]int64{2, 4}, bandrows.Spans(1)), bandrows.All([]int64{0, 1, 3}, bandrows.Spans(1)))
-	through, beside := 0, 0
-	for _, x := range lines() {
-		isLine := line.Check(x) == api.OK
-		for _, l := range all {
-			want := isLine && goes(x, l)
-			if got := swing.Through(x, l); got != want {
-				t.Fatalf("Through(%v, %v): %v", x, l, got)
-			}
-			if want {
-				through++
-			} else if isLine {
-				beside++
-			}
-		}
-	}
-	if through < 1000 || beside < 1000 {
-		t.Errorf("%d lines go through, %d do not: too few to tell", through, beside)
-	}
-}
-
-func TestThroughEdges(t *testing.T) {
-	// P9.2: the exact value counts, not the value; times are counted from the first band on; both ends are in.
-	const m, end = maxBack, int64(api.MaxTime)
-	for _, x := range []struct {
-		x    api.Line
-		l    []api.Band
-		want bool
-	}{
-		{api.Line{A: 5, D: 1}, bandrows.Of(0, 5, 5), true},
-		{api.Line{A: 5, D: 1}, bandrows.Of(api.MaxTime, 5, 5), true},
-		{api.Line{A: 5, R: 1, N: 1, D: 2}, bandrows.Of(0, 5, 5), false},
-		{api.Line{A: 5, R: 1, N: 1, D: 2}, bandrows.Of(0, 5, 6, 1, 6, 6), true},
-		{api.Line{A: 5, N: 1, D: 2}, bandrows.Of(10, 5, 5, 12, 6, 6), true},
-		{api.Line{A: 5, N: 1, D: 2}, bandrows.Of(10, 5, 5, 11, 5, 5), false},
-		{api.Line{A: 5, N: 1, D: 2}, bandrows.Of(10, 5, 5, 11, 6, 6), false},
-		{api.Line{A: 5, N: -1, D: 2}, bandrows.Of(10, 5, 5, 11, 4, 4), false},
-		{api.Line{A: -m, N: 2 * m, D: 1}, bandrows.Of(end-1, -m, -m, end, m, m), true},
-		{api.Line{A: m, N: -2 * m, D: 1}, bandrows.Of(0, m, m, 1, -m, -m), true},
-		{api.Line{A: m, N: 1, D: 1}, bandrows.Of(0, m, m, 1, m, m), false},
-		{api.Line{A: 0, N: 1, D: end}, bandrows.Of(0, 0, 0, end, 1, 1), true},
-		{api.Line{A: 0, N: 1, D: end}, bandrows.Of(0, 0, 0, end, 0, 0), false},
-		{api.Line{A: 0, N: 1, D: end}, bandrows.Of(0, 0, 0, 1, 0, 0), false},
-		{api.Line{A: 0, N: 1, D: end}, bandrows.Of(0, 0, 0, 1, 0, 1, end-1, 0, 1), true},
-		{api.Line{A: 0, N: 2, D: 2}, bandrows.Of(0, 0, 0, 1, 1, 1), false},
-		{api.Line{A: 0, N: 0, D: 0}, bandrows.Of(0, 0, 0), false},
-		{api.Line{A: 0, R: 1, D: 1}, bandrows.Of(0, 0, 9), false},
-		{api.Line{A: 0, R: -1, N: 1, D: 2}, bandrows.Of(0, -9, 9), false},
-		{api.Line{A: m + 1, D: 1}, bandrows.Of(0, -m, m), false},
-		{api.Line{A: math.MinInt64, R: math.MinInt64, N: math.MinInt64, D: math.MinInt64}, bandrows.Of(0, -m, m), false},
-	} {
-		if got := swing.Through(x.x, x.l); got != x.want {
-			t.Errorf("Through(%v, %v): %v", x.x, x.l, got)
+	// P9.2: the exact value counts, not the value; times are counted from the first band on; both ends are in; false of a line that may not be.
+	for x := range bandrows.Tries() {
+		if got := swing.Through(x.Line, x.Bands); got != x.Through {
+			t.Fatalf("Through, %v and %v: %v", x.Line, x.Bands, got)
 		}
 	}
 }
@@ -297,7 +173,7 @@ func TestThroughEdges(t *testing.T) {
 func TestFit(t *testing.T) {
 	// P9.3
 	none, some := 0, 0
-	for _, l := range allRows() {
+	for _, l := range bandrows.Various() {
 		want, wantErr := api.Line{}, api.ErrNone
 		none++
 		if swings(l) {
@@ -351,7 +227,7 @@ func TestFitEdges(t *testing.T) {
 
 func TestCutAndLines(t *testing.T) {
 	// P9.4
-	for _, l := range allRows() {
+	for _, l := range bandrows.Various() {
 		var counts []int
 		var fits []api.Line
 		for _, part := range cut(l) {
@@ -400,7 +276,7 @@ func TestCutOfMany(t *testing.T) {
 
 func TestFittedGoesThrough(t *testing.T) {
 	// P9.5: what is fitted goes through its bands, and its values are in them; so of each part.
-	for _, l := range allRows() {
+	for _, l := range bandrows.Various() {
 		counts, _ := swing.Cut(l)
 		fits, _ := swing.Lines(l)
 		from := 0
@@ -427,7 +303,7 @@ func TestFittedGoesThrough(t *testing.T) {
 
 func TestNoneIsFlatter(t *testing.T) {
 	// P9.5: if any line from the hinge goes through, there is one that is fitted, and none is nearer to 0.
-	for _, l := range slices.Concat(bandrows.All([]int64{0}, bandrows.Spans(2)), bandrows.All([]int64{0, 1}, bandrows.Spans(2)), bandrows.All([]int64{0, 1, 2}, bandrows.Spans(1)), bandrows.All([]int64{1, 3, 4}, bandrows.Spans(1)), bandrows.All([]int64{0, 2, 3}, bandrows.Spans(1))) {
+	for _, l := range bandrows.Few() {
 		x, e := swing.Fit(l)
 		for d := int64(1); d <= 4; d++ {
 			for n := int64(-20); n <= 20; n++ {
@@ -448,7 +324,7 @@ func TestNoneIsFlatter(t *testing.T) {
 
 func TestFirstOnesSwing(t *testing.T) {
 	// P9.5: the first bands of such as swing swing.
-	for _, l := range allRows() {
+	for _, l := range bandrows.Various() {
 		counts, _ := swing.Cut(l)
 		for n := 1; n <= counts[0]; n++ {
 			if x, e := swing.Fit(l[:n]); e != api.OK || !goes(x, l[:n]) {
