@@ -11,6 +11,7 @@ import (
 	"yearbook/line"
 	"yearbook/runs"
 	"yearbook/seg"
+	"yearbook/segrows"
 	"yearbook/wide"
 )
 
@@ -19,50 +20,6 @@ const (
 	maxTime = int64(api.MaxTime)
 	maxEps  = int64(api.MaxEps)
 )
-
-// example is the chapter's: its values at 10, 12, 14 and 16 are 5, 6, 7 and 8.
-func example() api.Seg {
-	return api.Seg{
-		Kind: api.SegTilt,
-		Runs: []api.Run{{From: 10, Step: 2, Count: 4}},
-		Line: api.Line{A: 5, N: 1, D: 2},
-		Err:  3,
-	}
-}
-
-func flat(v, err int64) api.Seg {
-	return api.Seg{Kind: api.SegFlat, Runs: []api.Run{{From: 0, Step: 1, Count: 3}}, Line: api.Line{A: v, D: 1}, Err: err}
-}
-
-func numbers(l []api.Run, values ...int64) api.Seg {
-	return api.Seg{Kind: api.SegRaw, Runs: l, Raw: values}
-}
-
-func even(from, step int64, n int) []int64 {
-	var l []int64
-	for i := range int64(n) {
-		l = append(l, from+i*step)
-	}
-	return l
-}
-
-// timeRows tells rows of times: even ones, others, and such at the ends of times.
-func timeRows() [][]int64 {
-	return [][]int64{
-		{0}, {9}, {maxTime}, {10, 12, 14, 16}, {3, 5, 7, 20, 21, 50}, {0, 1, 4}, {0, maxTime},
-		{maxTime - 9, maxTime - 8, maxTime - 3, maxTime - 1, maxTime}, {0, 5, maxTime - 1, maxTime},
-	}
-}
-
-// longRows tells rows of as many times as there may be: even ones, and such of many runs.
-func longRows() [][]int64 {
-	uneven, squares := []int64(nil), []int64(nil)
-	for i := range int64(256) {
-		uneven = append(uneven, i*3/2)
-		squares = append(squares, maxTime-(255-i)*(255-i))
-	}
-	return [][]int64{even(0, 1, 256), even(7, maxTime/256, 255), even(maxTime-255*60, 60, 256), uneven, squares}
-}
 
 // floor is the chapter's value of a line, in numbers that lose nothing.
 func floor(x api.Line, dt int64) *big.Int {
@@ -107,42 +64,19 @@ func lined(t *testing.T, times []int64, x api.Line) (known, bool) {
 	return k, true
 }
 
-// farLines tells lines whose values are at the ends of what may be told, or beyond, at some of the times above.
-func farLines() []api.Line {
-	const m, end = maxBack, maxTime
-	return []api.Line{
-		{A: m, D: 1}, {A: -m, D: 1}, {A: m, N: -2 * m, D: 1}, {A: -m, N: 2 * m, D: 1},
-		{A: m, R: 1, N: -1, D: 2}, {A: m, R: 1, N: 1, D: end}, {A: m, N: 1, D: end}, {A: m, R: end - 1, N: 1, D: end},
-		{A: m - 1, N: 1, D: end}, {A: m - 1, R: end - 1, N: 1, D: end}, {A: -m, N: -1, D: end}, {A: -m, R: 1, N: -1, D: end},
-		{A: -m, R: 5, N: -1, D: end}, {A: -m, R: 3, N: -5, D: 7}, {A: 3, N: m / 64, D: 1}, {A: 3, N: -m / 64, D: 1},
-		{A: m - 3, N: 1, D: 1}, {A: 3 - m, R: 3, N: -2, D: 5}, {A: -m, N: m/(end/2) + 1, D: 1}, {A: m - 15299, N: 1, D: 1},
-		{A: m - 15300, N: 1, D: 1}, {A: m - 15301, N: 1, D: 1}, {A: 12345, R: 1000, N: -987654321987, D: 1000003},
-	}
-}
-
 // lines tells segments with lines, that may be, and then those of which a value may not be told.
 func lines(t *testing.T) (may, beyond []known) {
 	t.Helper()
-	take := func(times []int64, l []api.Line) {
-		for _, x := range l {
-			if line.Check(x) != api.OK {
-				continue
-			}
-			k, is := lined(t, times, x)
-			if is {
-				may = append(may, k)
-			} else {
-				beyond = append(beyond, k)
-			}
+	for times, x := range segrows.Lined() {
+		if line.Check(x) != api.OK {
+			continue
 		}
-	}
-	for _, times := range timeRows() {
-		take(times, bandrows.Lines())
-		take(times, farLines())
-	}
-	for _, times := range longRows() {
-		take(times, farLines())
-		take(times, []api.Line{{A: 5, D: 1}, {A: -3, N: -7, D: 3}, {A: 100, R: 2, N: 22, D: 7}, {A: 0, N: 1, D: 1}})
+		k, is := lined(t, times, x)
+		if is {
+			may = append(may, k)
+		} else {
+			beyond = append(beyond, k)
+		}
 	}
 	return may, beyond
 }
@@ -150,23 +84,13 @@ func lines(t *testing.T) (may, beyond []known) {
 // raws tells segments with numbers.
 func raws(t *testing.T) []known {
 	t.Helper()
-	below := bandrows.Below(11)
 	var l []known
-	for _, times := range slices.Concat(timeRows(), longRows()) {
-		for _, most := range []int64{1, 5, 1000, maxBack} {
-			var values []int64
-			for range times {
-				values = append(values, (below(2*1000+1)-1000)*(most/1000)+below(3)-1)
-			}
-			if most == maxBack {
-				values[0], values[len(values)-1] = maxBack, -maxBack
-			}
-			row, e := runs.Of(times)
-			if e != api.OK {
-				t.Fatalf("Of(%v): %d", times, e)
-			}
-			l = append(l, known{numbers(row, values...), times, values})
+	for times, values := range segrows.Valued() {
+		row, e := runs.Of(times)
+		if e != api.OK {
+			t.Fatalf("Of(%v): %d", times, e)
 		}
+		l = append(l, known{segrows.Numbers(row, values...), times, values})
 	}
 	return l
 }
@@ -323,7 +247,7 @@ func isSame(a, b api.Seg) bool {
 
 func TestOfEdges(t *testing.T) {
 	// P11.2: Err is from 0 to MaxEps; what may not be is ErrSeg, whatever of it is wrong.
-	l := example().Runs
+	l := segrows.Example().Runs
 	for _, far := range []int64{0, 1, maxEps} {
 		if s, e := seg.Of(l, api.Line{A: 5, D: 1}, far); s.Err != far || s.Kind != api.SegFlat || e != api.OK {
 			t.Errorf("Of, %d far: %v %d", far, s, e)
@@ -356,7 +280,7 @@ func TestOfEdges(t *testing.T) {
 
 func TestKind(t *testing.T) {
 	// P11.1: 0 of a line that may not be.
-	for _, x := range slices.Concat(bandrows.Lines(), farLines(), []api.Line{
+	for _, x := range slices.Concat(bandrows.Lines(), segrows.FarLines(), []api.Line{
 		{}, {D: 1}, {A: maxBack + 1, D: 1}, {A: -maxBack - 1, D: 1}, {N: 2, D: 4}, {R: 4, N: 1, D: 4}, {R: -1, N: 1, D: 4},
 		{N: api.MaxSlope, D: 1}, {N: api.MaxSlope + 1, D: 1}, {N: 1, D: maxTime}, {N: 1, D: maxTime + 1}, {R: 1, D: 1}, {D: 2},
 		{A: math.MinInt64, R: math.MinInt64, N: math.MinInt64, D: math.MinInt64},
@@ -371,48 +295,10 @@ func TestKind(t *testing.T) {
 	}
 }
 
-// but tells a segment that is changed.
-func but(s api.Seg, change func(s *api.Seg)) api.Seg {
-	s.Runs, s.Raw = slices.Clone(s.Runs), slices.Clone(s.Raw)
-	change(&s)
-	return s
-}
-
 // wrong tells segments that may not be.
 func wrong(t *testing.T) []api.Seg {
 	t.Helper()
-	raw := numbers(example().Runs, 1, -2, 3, 4)
-	free := but(example(), func(s *api.Seg) { s.Kind, s.Line.R = api.SegFree, 1 })
-	good := []api.Seg{example(), flat(3, 0), free, raw}
-	l := []api.Seg{{}}
-	for _, s := range good {
-		if e := seg.Check(s); e != api.OK {
-			t.Fatalf("Check(%v): %d", s, e)
-		}
-		for _, kind := range []int{0, 1, 2, 3, 4, 5, -1, 6, math.MinInt, math.MaxInt} {
-			if kind != s.Kind {
-				l = append(l, but(s, func(s *api.Seg) { s.Kind = kind }))
-			}
-		}
-		for _, far := range []int64{-1, maxEps + 1, math.MinInt64, math.MaxInt64} {
-			l = append(l, but(s, func(s *api.Seg) { s.Err = far }))
-		}
-		for _, row := range wrongRuns() {
-			l = append(l, but(s, func(s *api.Seg) { s.Runs = row }))
-		}
-		l = append(l, but(s, func(s *api.Seg) { s.Line.D -= 3 }), but(s, func(s *api.Seg) { s.Line.D = maxTime + 1 }))
-		l = append(l, but(s, func(s *api.Seg) { s.Line.A = maxBack + 1 }), but(s, func(s *api.Seg) { s.Line.R = -1 }))
-		l = append(l, but(s, func(s *api.Seg) { s.Line.R = s.Line.D + 1 }), but(s, func(s *api.Seg) { s.Line.N += 1 << 62 }))
-		l = append(l, but(s, func(s *api.Seg) { s.Raw = append(s.Raw, 0) }))
-	}
-	for _, v := range []int64{maxBack + 1, -maxBack - 1, math.MaxInt64, math.MinInt64} {
-		for i := range raw.Raw {
-			l = append(l, but(raw, func(s *api.Seg) { s.Raw[i] = v }))
-		}
-		l = append(l, flat(v, 0))
-	}
-	l = append(l, numbers(raw.Runs), numbers(raw.Runs, 1, 2, 3), numbers(nil), but(raw, func(s *api.Seg) { s.Line = api.Line{D: 1} }))
-	l = append(l, but(flat(3, 0), func(s *api.Seg) { s.Raw = []int64{3, 3, 3} }))
+	l := segrows.Wrong()
 	_, beyond := lines(t)
 	for _, k := range beyond {
 		l = append(l, k.s)
@@ -420,17 +306,13 @@ func wrong(t *testing.T) []api.Seg {
 	return l
 }
 
-func wrongRuns() [][]api.Run {
-	return [][]api.Run{
-		nil, {}, {{}}, {{From: 10, Step: 2, Count: 0}}, {{From: 10, Step: 0, Count: 4}}, {{From: -10, Step: 2, Count: 4}},
-		{{From: 0, Step: 1, Count: 257}}, {{From: maxTime, Step: 1, Count: 4}}, {{From: 10, Step: 2, Count: -4}},
-		{{From: 10, Step: 1, Count: 2}, {From: 12, Step: 1, Count: 2}}, {{From: 10, Count: 1}, {From: 12, Step: 1, Count: 3}},
-		{{From: 10, Step: 5, Count: 2}, {From: 12, Step: 1, Count: 2}}, {{From: math.MaxInt64, Step: math.MaxInt64, Count: math.MaxInt}},
-	}
-}
-
 func TestWrong(t *testing.T) {
 	// P11.1, P11.3 to P11.5: ErrSeg goes ahead of all else, with zeros beside it; nothing is said of what may not be.
+	for _, s := range segrows.Good() {
+		if e := seg.Check(s); e != api.OK {
+			t.Errorf("Check(%v): %d", s, e)
+		}
+	}
 	l := wrong(t)
 	if len(l) < 150 {
 		t.Errorf("%d segments that may not be: too few to tell", len(l))
@@ -466,12 +348,12 @@ func TestWrong(t *testing.T) {
 
 func TestSame(t *testing.T) {
 	// P11.1: field by field, be it that a segment may not be.
-	l := append(wrong(t), example(), flat(3, 0), flat(3, 1), flat(4, 0), numbers(example().Runs, 1, 2, 3, 4), numbers(example().Runs, 1, 2, 3, 5))
+	l := append(wrong(t), segrows.Example(), segrows.Flat(3, 0), segrows.Flat(3, 1), segrows.Flat(4, 0), segrows.Numbers(segrows.Example().Runs, 1, 2, 3, 4), segrows.Numbers(segrows.Example().Runs, 1, 2, 3, 5))
 	for _, k := range raws(t) {
 		l = append(l, k.s)
 	}
 	for _, a := range l {
-		if !seg.Same(a, but(a, func(s *api.Seg) {})) {
+		if !seg.Same(a, segrows.But(a, func(s *api.Seg) {})) {
 			t.Fatalf("Same(%v, as it is)", a)
 		}
 		for _, b := range l {
@@ -480,8 +362,8 @@ func TestSame(t *testing.T) {
 			}
 		}
 	}
-	none := but(example(), func(s *api.Seg) { s.Raw = []int64{} })
-	if !seg.Same(none, example()) || seg.Check(none) != api.OK || !seg.Same(api.Seg{Runs: []api.Run{}}, api.Seg{}) {
+	none := segrows.But(segrows.Example(), func(s *api.Seg) { s.Raw = []int64{} })
+	if !seg.Same(none, segrows.Example()) || seg.Check(none) != api.OK || !seg.Same(api.Seg{Runs: []api.Run{}}, api.Seg{}) {
 		t.Errorf("nil and empty are not one")
 	}
 	changes := []func(s *api.Seg){
@@ -500,9 +382,9 @@ func TestSame(t *testing.T) {
 		func(s *api.Seg) { s.Raw[1]++ },
 		func(s *api.Seg) { s.Raw = s.Raw[:1] },
 	}
-	whole := api.Seg{Kind: api.SegRaw, Runs: example().Runs, Line: example().Line, Raw: []int64{3, 5}, Err: 2}
+	whole := api.Seg{Kind: api.SegRaw, Runs: segrows.Example().Runs, Line: segrows.Example().Line, Raw: []int64{3, 5}, Err: 2}
 	for i, change := range changes {
-		if other := but(whole, change); seg.Same(whole, other) || seg.Same(other, whole) {
+		if other := segrows.But(whole, change); seg.Same(whole, other) || seg.Same(other, whole) {
 			t.Errorf("Same, change %d: %v", i, other)
 		}
 	}
@@ -527,7 +409,7 @@ func TestFar(t *testing.T) {
 			}
 		}
 	}
-	holdFar(t, flat(maxBack, 0), []api.Point{{T: 0, V: maxBack}, {T: 1, V: -maxBack}, {T: 2, V: 0}}, 2*maxBack)
+	holdFar(t, segrows.Flat(maxBack, 0), []api.Point{{T: 0, V: maxBack}, {T: 1, V: -maxBack}, {T: 2, V: 0}}, 2*maxBack)
 }
 
 // holdFar holds how far points are from a segment, and whether it holds them with each Err.
@@ -578,28 +460,28 @@ func TestFarOfOthers(t *testing.T) {
 			t.Errorf("Far(%v, %v): %d %d, or Holds", s, points, far, e)
 		}
 	}
-	hold(example(), nil)
-	hold(example(), []api.Point{})
-	hold(example(), good[:3])
-	hold(example(), good[1:])
-	hold(example(), append(slices.Clone(good), api.Point{T: 18, V: 9}))
-	hold(example(), make([]api.Point, 4))
-	hold(example(), make([]api.Point, 1000))
-	hold(example(), []api.Point{good[0], good[2], good[1], good[3]})
+	hold(segrows.Example(), nil)
+	hold(segrows.Example(), []api.Point{})
+	hold(segrows.Example(), good[:3])
+	hold(segrows.Example(), good[1:])
+	hold(segrows.Example(), append(slices.Clone(good), api.Point{T: 18, V: 9}))
+	hold(segrows.Example(), make([]api.Point, 4))
+	hold(segrows.Example(), make([]api.Point, 1000))
+	hold(segrows.Example(), []api.Point{good[0], good[2], good[1], good[3]})
 	for i := range good {
 		for _, at := range []int64{good[i].T - 1, good[i].T + 1, good[i].T + 2, math.MinInt64, math.MaxInt64} {
 			other := slices.Clone(good)
 			other[i].T = at
-			hold(example(), other)
+			hold(segrows.Example(), other)
 		}
 		for _, v := range []int64{maxBack + 1, -maxBack - 1, math.MinInt64, math.MaxInt64} {
 			other := slices.Clone(good)
 			other[i].V = v
-			hold(example(), other)
+			hold(segrows.Example(), other)
 		}
 	}
-	if !seg.Holds(example(), good) {
-		t.Errorf("Holds(%v, %v): false", example(), good)
+	if !seg.Holds(segrows.Example(), good) {
+		t.Errorf("Holds(%v, %v): false", segrows.Example(), good)
 	}
 }
 
@@ -627,7 +509,7 @@ func TestNothingIsShared(t *testing.T) {
 
 func TestExamples(t *testing.T) {
 	// P11.1 to P11.5: the chapter's examples.
-	s := example()
+	s := segrows.Example()
 	if v, e := seg.At(s, 14); v != 7 || e != api.OK {
 		t.Errorf("At(14): %d %d", v, e)
 	}
