@@ -1,4 +1,4 @@
-// Package segrows tells segments, and of what they are made, on which the layers that go through segments are tested. No layer calls it.
+// Package segrows tells segments, and the points and times of which they are made, on which the layers that go through segments are tested. No layer calls it.
 package segrows
 
 import (

@@ -7,7 +7,6 @@ import (
 	"testing"
 
 	"yearbook/api"
-	"yearbook/bandrows"
 	"yearbook/line"
 	"yearbook/pmc"
 	"yearbook/runs"
@@ -83,32 +82,8 @@ func short() [][]api.Point {
 	)
 }
 
-// long tells rows of many points that climb, fall and wander, about 0 and about the ends of what a value may be.
-func long() [][]api.Point {
-	var l [][]api.Point
-	below := bandrows.Below(13)
-	for _, n := range []int{9, 31, 32} {
-		for _, climb := range []int64{0, 3, -7} {
-			for _, wander := range []int64{1, 3, 50, 4000} {
-				for _, middle := range []int64{0, maxValue - 5000, 5000 - maxValue} {
-					for _, gap := range []int64{1, 4} {
-						var row []api.Point
-						at := below(5)
-						for range n {
-							row = append(row, api.Point{T: at, V: middle + climb*at + below(wander)})
-							at += 1 + below(gap)
-						}
-						l = append(l, row)
-					}
-				}
-			}
-		}
-	}
-	return l
-}
-
 func rows() [][]api.Point {
-	return slices.Concat(short(), long())
+	return slices.Concat(short(), segrows.LongPoints())
 }
 
 func bounds() []int64 {
@@ -449,7 +424,7 @@ func isStraight(l []api.Point, eps int64) bool {
 func TestFewest(t *testing.T) {
 	// P13.5: no partition into constants has fewer parts than WayFlat's, none into lines fewer than WayFree's.
 	var some [][]api.Point
-	for i, l := range long() {
+	for i, l := range segrows.LongPoints() {
 		if i%5 == 0 {
 			some = append(some, l[:min(len(l), 14)])
 		}
@@ -478,23 +453,8 @@ func TestFewest(t *testing.T) {
 // holdApart holds that an answer's segments share nothing, neither with one another nor with those of another answer.
 func holdApart(t *testing.T, answer func() []api.Seg) {
 	t.Helper()
-	segs, others := answer(), answer()
-	var want []api.Seg
-	for _, s := range segs {
-		want = append(want, segrows.But(s, func(s *api.Seg) {}))
-	}
-	for i, s := range others {
-		_ = append(s.Runs, api.Run{From: 5})
-		_ = append(s.Raw, 5)
-		clear(s.Runs)
-		clear(s.Raw)
-		if !slices.EqualFunc(others[i+1:], want[i+1:], seg.Same) {
-			t.Errorf("%v share something", want)
-		}
-	}
-	clear(others)
-	if !slices.EqualFunc(segs, want, seg.Same) {
-		t.Errorf("%v became %v", want, segs)
+	if segrows.Share(answer) {
+		t.Errorf("%v share something", answer())
 	}
 }
 
